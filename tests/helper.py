@@ -1,0 +1,53 @@
+"""Tells calls as lists of numbers, and reads the answers back call by call."""
+
+from sceneshift.stage import answers
+
+LARGEST = 4294967295
+
+
+def row(numbers):
+    return [len(numbers)] + list(numbers)
+
+
+def begins(heavy, left_room=0, right_room=0, left=(), right=()):
+    return [0, left_room, right_room] + row(heavy) + row(left) + row(right)
+
+
+def scene(*pieces):
+    return [1] + row(pieces)
+
+
+def drop():
+    return [2]
+
+
+def line(*calls):
+    """The one list that tells these calls."""
+    return [number for call in calls for number in call]
+
+
+def split(given):
+    """What is given back, one list a call."""
+    lists = []
+    place = 0
+    while place < len(given):
+        end = place + 1 + given[place]
+        if end > len(given):
+            raise ValueError("the last answer is cut off")
+        lists.append(given[place + 1:end])
+        place = end
+    return lists
+
+
+def ask(*calls):
+    """The number that each call answers; none of these calls answers a list with it."""
+    lists = split(answers(line(*calls)))
+    for answer in lists:
+        if len(answer) != 1:
+            raise ValueError(f"not one number alone: {answer}")
+    return [answer[0] for answer in lists]
+
+
+def last(*calls):
+    """The number that the last of the calls answers."""
+    return ask(*calls)[-1]
