@@ -1,5 +1,8 @@
 """One house: its pieces, its two wings and its scenes."""
 
+from sceneshift.carrying import pieces_on, step_by, steps_from
+from sceneshift.lightest import Plan
+
 MOST_PIECES = 4
 MOST_HEAVY = 1000
 MOST_ROOM = 3
@@ -58,7 +61,10 @@ def ways_to_stand(many, left_room, right_room):
 
 
 class House:
-    """What stands in one house; each call answers a number, below 0 if it's refused."""
+    """What stands in one house; each call answers a number, below 0 if it's refused.
+
+    ways and check answer a tuple of the number and the rows that come with it.
+    """
 
     def __init__(self):
         self.heavy = []
@@ -98,3 +104,39 @@ class House:
             return -4
         self.scenes.pop()
         return len(self.scenes)
+
+    def standing(self):
+        """Give back how the pieces stand now."""
+        return (tuple(self.left), tuple(self.right))
+
+    def plan(self):
+        """Search the lightest carryings for all scenes, from how the pieces stand now."""
+        return Plan(self.heavy, self.left_room, self.right_room, self.standing(), self.scenes)
+
+    def least(self):
+        """Answer how heavy the lightest carryings for all scenes are."""
+        weight = self.plan().least()
+        if weight is None:
+            return -6
+        return weight
+
+    def ways(self):
+        """Answer the same, with a row of each scene's carryings, of the first lightest ones."""
+        plan = self.plan()
+        weight = plan.least()
+        if weight is None:
+            return (-6, [])
+        return (weight, plan.rows())
+
+    def check(self, carryings):
+        """Answer 1, with how heavy the carryings are and how all would stand; else 0, with the first that can't be."""
+        weight = 0
+        standing = self.standing()
+        for number, carrying in enumerate(carryings):
+            step = step_by(steps_from(self.heavy, self.left_room, self.right_room, standing), carrying)
+            if step is None:
+                return (0, [[number]])
+            weight = weight + step.weight
+            standing = step.after
+        on = pieces_on(len(self.heavy), standing)
+        return (1, [[weight], on, list(standing[0]), list(standing[1])])

@@ -1,10 +1,14 @@
 """The interface: the calls on one house, told in one list of whole numbers."""
 
+from sceneshift.carrying import OFF_LEFT, OFF_RIGHT
 from sceneshift.house import House
 
 BEGINS = 0
 SCENE = 1
 DROP = 2
+LEAST = 3
+WAYS = 4
+CHECK = 5
 
 
 class UnknownCall(ValueError):
@@ -46,6 +50,33 @@ def answer_begins(house, reader):
     return house.begins(heavy, left_room, right_room, left, right)
 
 
+def take_carrying(reader):
+    """Read one carrying; only those that go off tell their piece."""
+    kind = reader.take_number()
+    if kind == OFF_LEFT or kind == OFF_RIGHT:
+        return (kind, reader.take_number())
+    return (kind,)
+
+
+def answer_check(house, reader):
+    """Read what check is told, and do it."""
+    many = reader.take_number()
+    row = Reader(reader.take_row())
+    carryings = []
+    while len(carryings) < many:
+        carryings.append(take_carrying(row))
+    return house.check(carryings)
+
+
+def with_rows(answer):
+    """Give back an answer's number, then each of its rows behind how many numbers it has."""
+    numbers = [answer[0]]
+    for row in answer[1]:
+        numbers.append(len(row))
+        numbers.extend(row)
+    return numbers
+
+
 def answer_next(house, reader):
     """Do the next call; give back the numbers that it answers."""
     call = reader.take_number()
@@ -55,6 +86,12 @@ def answer_next(house, reader):
         return [house.scene(reader.take_row())]
     if call == DROP:
         return [house.drop()]
+    if call == LEAST:
+        return [house.least()]
+    if call == WAYS:
+        return with_rows(house.ways())
+    if call == CHECK:
+        return with_rows(answer_check(house, reader))
     raise UnknownCall(f"there is no call {call}")
 
 

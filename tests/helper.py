@@ -21,6 +21,19 @@ def drop():
     return [2]
 
 
+def least():
+    return [3]
+
+
+def ways():
+    return [4]
+
+
+def check(*carryings):
+    """Each carrying a tuple of its numbers."""
+    return [5, len(carryings)] + row([number for carrying in carryings for number in carrying])
+
+
 def line(*calls):
     """The one list that tells these calls."""
     return [number for call in calls for number in call]
@@ -37,6 +50,12 @@ def split(given):
         lists.append(given[place + 1:end])
         place = end
     return lists
+
+
+def told(*calls):
+    """What the last of the calls answers: its number, then the lists that come with it."""
+    numbers = split(answers(line(*calls)))[-1]
+    return [numbers[0]] + split(numbers[1:])
 
 
 def ask(*calls):
